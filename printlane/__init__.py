@@ -1,0 +1,1 @@
+"""Printlane: a lane of print jobs with pages, rests and budgets."""
